@@ -1,0 +1,1 @@
+"""Offline evaluation of policies from a log of past decisions."""
