@@ -42,9 +42,9 @@ def term_of(study, policy, kind, limit, event):
     return factor.times(whole(event.reward))
 
 
-def terms_of(study, policy, kind, limit):
-    """Give back the term of each event."""
-    return [term_of(study, policy, kind, limit, event) for event in study.events]
+def terms_of(study, policy, kind, limit, events):
+    """Give back the term of each of the events."""
+    return [term_of(study, policy, kind, limit, event) for event in events]
 
 
 def variance_of_mean(terms):

@@ -11,6 +11,11 @@ MOST_DEN = 1000
 MOST_WEIGHT = 1000
 MOST_KIND = 3
 MOST_LIMIT = 100000
+MOST_FACTOR = 10000
+MOST_ROUNDS = 50
+MOST_RANKS = 12
+MOST_GAIN = 100
+MOST_RANK_NUMBER = 1000
 
 
 def check_place(number, count):
@@ -41,11 +46,16 @@ def check_range(number, least, greatest):
         raise OutOfLimits()
 
 
+def check_numbers(row, greatest):
+    """Refuse a row with a number that isn't from 0 to the greatest."""
+    for number in row:
+        check_range(number, 0, greatest)
+
+
 def check_row(study, row, greatest):
     """Refuse a row that hasn't a number from 0 to the greatest for each action."""
     check_range(len(row), study.actions, study.actions)
-    for number in row:
-        check_range(number, 0, greatest)
+    check_numbers(row, greatest)
 
 
 def check_weights(study, weights):
@@ -58,6 +68,24 @@ def check_weights(study, weights):
 def check_rewards(study, rewards):
     """Refuse a row that hasn't a reward for each action."""
     check_row(study, rewards, MOST_REWARD)
+
+
+def check_relevance(relevance):
+    """Refuse a ranked list that isn't one of relevances."""
+    check_range(len(relevance), 1, MOST_RANKS)
+    check_numbers(relevance, 1)
+
+
+def check_gains(gains):
+    """Refuse a ranked list that isn't one of gains."""
+    check_range(len(gains), 1, MOST_RANKS)
+    check_numbers(gains, MOST_GAIN)
+
+
+def check_ranks(ranks):
+    """Refuse a ranked list without a pair of positions, or with a number outside its limits."""
+    check_range(len(ranks), 2, MOST_RANKS)
+    check_numbers(ranks, MOST_RANK_NUMBER)
 
 
 def check_reward(reward):

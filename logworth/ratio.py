@@ -34,9 +34,13 @@ class Ratio:
         """Give back the quotient by a fraction greater than 0."""
         return Ratio(self.top * other.bottom, self.bottom * other.top)
 
+    def below(self, other):
+        """Give back whether it is less than the other one."""
+        return self.top * other.bottom < other.top * self.bottom
+
     def smaller(self, other):
         """Give back the smaller one of both."""
-        if other.top * self.bottom < self.top * other.bottom:
+        if other.below(self):
             return other
         return self
 
@@ -63,5 +67,29 @@ def total(ratios):
 
 
 def mean(ratios):
-    """Give back the mean of at least one fraction."""
+    """Give back the mean, 0 if there are none."""
+    if len(ratios) == 0:
+        return whole(0)
     return total(ratios).over(whole(len(ratios)))
+
+
+def greatest(ratios):
+    """Give back the greatest one of at least one fraction."""
+    result = ratios[0]
+    for ratio in ratios:
+        if result.below(ratio):
+            result = ratio
+    return result
+
+
+def common_bottom(ratios):
+    """Give back the least whole number that all bottoms divide."""
+    result = 1
+    for ratio in ratios:
+        result = result // common_divisor(result, ratio.bottom) * ratio.bottom
+    return result
+
+
+def tops_over(ratios, bottom):
+    """Give back the tops that the fractions have over a bottom that all of theirs divide."""
+    return [ratio.top * (bottom // ratio.bottom) for ratio in ratios]

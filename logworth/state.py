@@ -26,6 +26,10 @@ class Policy:
         row = self.weights[context]
         return Ratio(row[action], sum(row))
 
+    def can_choose(self, context, action):
+        """Give back whether that probability is other than 0."""
+        return self.weights[context][action] > 0
+
     def preferred(self, context):
         """Give back the first action with the greatest weight."""
         row = self.weights[context]

@@ -2,8 +2,10 @@
 
 from logworth.changes import CHANGES, create
 from logworth.questions import QUESTIONS
+from logworth.ranked import RANKED
 from logworth.reader import Reader
 from logworth.refusals import NoStudy, Refusal
+from logworth.truth import TRUTHS
 
 CREATE = 0
 
@@ -24,6 +26,20 @@ SHAPES = (
     (1, 0),
     (1, 0),
     (3, 0),
+    (4, 0),
+    (4, 0),
+    (3, 0),
+    (1, 0),
+    (1, 0),
+    (1, 0),
+    (4, 0),
+    (2, 0),
+    (5, 0),
+    (1, 1),
+    (0, 1),
+    (0, 1),
+    (0, 1),
+    (0, 0),
 )
 
 
@@ -41,31 +57,35 @@ class Session:
                 return [0]
             if self.study is None:
                 raise NoStudy()
-            return carry_out(operation_of(number), self.study, given)
+            if number in RANKED:
+                return carry_out(RANKED[number], given)
+            return carry_out(operation_of(number), [self.study] + given)
         except Refusal as refusal:
             return [refusal.code]
 
 
 def operation_of(number):
-    """Give back the function that carries out a call."""
+    """Give back the function that carries out a call on the study."""
     if number in CHANGES:
         return CHANGES[number]
+    if number in TRUTHS:
+        return TRUTHS[number]
     return QUESTIONS[number]
 
 
-def carry_out(operation, study, given):
-    """Hand on what a call is given, one by one."""
-    if len(given) == 0:
-        return operation(study)
+def carry_out(operation, given):
+    """Hand on what an operation is given, one by one."""
     if len(given) == 1:
-        return operation(study, given[0])
+        return operation(given[0])
     if len(given) == 2:
-        return operation(study, given[0], given[1])
+        return operation(given[0], given[1])
     if len(given) == 3:
-        return operation(study, given[0], given[1], given[2])
+        return operation(given[0], given[1], given[2])
     if len(given) == 4:
-        return operation(study, given[0], given[1], given[2], given[3])
-    return operation(study, given[0], given[1], given[2], given[3], given[4])
+        return operation(given[0], given[1], given[2], given[3])
+    if len(given) == 5:
+        return operation(given[0], given[1], given[2], given[3], given[4])
+    return operation(given[0], given[1], given[2], given[3], given[4], given[5])
 
 
 def answers(calls):

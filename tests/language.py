@@ -156,6 +156,56 @@ def node_faults(node, own_methods):
     return found
 
 
+def bound_names(tree):
+    """The parameters and the locals of a file, each with its line."""
+    found = []
+    for top in tree.body:
+        for node in ast.walk(top):
+            if isinstance(node, ast.arg):
+                found.append((node.arg, node.lineno))
+            if isinstance(node, ast.Name) and isinstance(node.ctx, ast.Store) and not isinstance(top, ast.Assign):
+                found.append((node.id, node.lineno))
+            if isinstance(node, ast.ExceptHandler) and node.name is not None:
+                found.append((node.name, node.lineno))
+    return found
+
+
+def hidden_faults(tree):
+    """Parameters and locals that are called like an import or a class of their file."""
+    taken = [alias.name for node in tree.body if isinstance(node, ast.ImportFrom) for alias in node.names]
+    taken += [node.name for node in tree.body if isinstance(node, ast.ClassDef)]
+    return ["L15: the name %s in line %d" % (name, line) for name, line in bound_names(tree) if name in taken]
+
+
+def import_faults(trees):
+    """Imports of what the other file doesn't define itself, and files that draw from one another."""
+    defined = {}
+    drawn = {}
+    for name, tree in trees.items():
+        named = [node.name for node in tree.body if isinstance(node, (ast.FunctionDef, ast.ClassDef))]
+        values = [node.targets[0].id for node in tree.body if isinstance(node, ast.Assign)]
+        defined[name] = named + values
+        imports = [node for node in tree.body if isinstance(node, ast.ImportFrom)]
+        drawn[name] = [(str(node.module).split(".")[-1] + ".py", alias.name) for node in imports for alias in node.names]
+    found = []
+    for name, pairs in drawn.items():
+        found += ["L16: %s draws %s from %s" % (name, part, other) for other, part in pairs
+                  if part not in defined.get(other, [])]
+        reached = [other for other, part in pairs]
+        for other in reached:
+            reached += [further for further, part in drawn.get(other, []) if further not in reached]
+        if name in reached:
+            found.append("L16: %s draws from itself" % name)
+    return found
+
+
+def member_faults(trees, own_methods):
+    """Methods of a class that are values of another one."""
+    stored = {node.attr for tree in trees for node in ast.walk(tree)
+              if isinstance(node, ast.Attribute) and isinstance(node.ctx, ast.Store)}
+    return ["L18: %s is a method and a value" % name for name in sorted(stored & own_methods)]
+
+
 def methods_of(trees):
     """The names of all methods of the classes."""
     classes = [node for tree in trees for node in tree.body if isinstance(node, ast.ClassDef)]
@@ -166,9 +216,9 @@ def faults(sources):
     """What is wrong with the files of the package, which are given as a dict from name to source."""
     trees = {name: ast.parse(source) for name, source in sources.items()}
     own_methods = methods_of(trees.values())
-    found = []
+    found = import_faults(trees) + member_faults(trees.values(), own_methods)
     for name, source in sources.items():
-        here = file_name_faults(name) + line_faults(source) + top_faults(trees[name])
+        here = file_name_faults(name) + line_faults(source) + top_faults(trees[name]) + hidden_faults(trees[name])
         for node in ast.walk(trees[name]):
             here += node_faults(node, own_methods)
         found += [name + ": " + fault for fault in here]

@@ -8,6 +8,9 @@ OUT_OF_LIMITS = [-22]
 LOG_FULL = [-28]
 NOT_ENOUGH = [-33]
 
+# The greatest number that is ever handed in.
+LARGEST = 4294967295
+
 
 def create(contexts, actions):
     return [0, contexts, actions]
@@ -67,6 +70,62 @@ def effective_size(policy):
 
 def variance(policy, kind, limit):
     return [14, policy, kind, limit]
+
+
+def interval(policy, kind, limit, factor):
+    return [15, policy, kind, limit, factor]
+
+
+def compare(first, second, kind, limit):
+    return [16, first, second, kind, limit]
+
+
+def by_context(policy, kind, limit):
+    return [17, policy, kind, limit]
+
+
+def greatest_weight(policy):
+    return [18, policy]
+
+
+def model_info(context):
+    return [19, context]
+
+
+def true_value(policy):
+    return [20, policy]
+
+
+def expectation(logging, policy, kind, limit):
+    return [21, logging, policy, kind, limit]
+
+
+def unsupported(logging, policy):
+    return [22, logging, policy]
+
+
+def bootstrap(policy, kind, limit, rounds, seed):
+    return [23, policy, kind, limit, rounds, seed]
+
+
+def precision(count, relevance):
+    return [24, count, len(relevance)] + relevance
+
+
+def rank_measures(relevance):
+    return [25, len(relevance)] + relevance
+
+
+def gains(numbers):
+    return [26, len(numbers)] + numbers
+
+
+def order_measure(ranks):
+    return [27, len(ranks)] + ranks
+
+
+def status():
+    return [28]
 
 
 def flat(calls):

@@ -65,6 +65,34 @@ class Language(unittest.TestCase):
             with self.subTest(source=source[:60]):
                 self.assertNotEqual(faults({"sample.py": source}), [])
 
+    def test_names_that_hide_others(self):
+        ratio = "def whole(number):\n    return number"
+        for use in ("whole", "Kept"):
+            sources = {
+                "ratio.py": ratio,
+                "sample.py": "from logworth.ratio import whole\n\n\nclass Kept:\n    'A text.'\n\n\n"
+                             "def first(%s):\n    return 1" % use,
+            }
+            self.assertEqual([fault.split(":")[1] for fault in faults(sources)], [" L15"])
+
+    def test_files_that_draw_from_one_another(self):
+        sources = {
+            "one.py": "from logworth.two import second\n\n\ndef first():\n    return second()",
+            "two.py": "from logworth.three import third\n\n\ndef second():\n    return third()",
+            "three.py": "from logworth.one import first\n\n\ndef third():\n    return first()",
+        }
+        self.assertEqual(len(faults(sources)), 3)
+        sources["three.py"] = "def third():\n    return 1"
+        self.assertEqual(faults(sources), [])
+        sources["one.py"] = "from logworth.two import third\n\n\ndef first():\n    return third()"
+        self.assertEqual(len(faults(sources)), 1)
+
+    def test_a_method_and_a_value_of_one_name(self):
+        kept = "class Kept:\n    'A text.'\n\n    def __init__(self):\n        self.%s = 1"
+        asked = "\n\n\nclass Asked:\n    'A text.'\n\n    def number(self):\n        return 1"
+        self.assertEqual(faults({"sample.py": kept % "place" + asked}), [])
+        self.assertEqual(len(faults({"sample.py": kept % "number" + asked})), 1)
+
     def test_file_names(self):
         for name in ("Study.py", "test_study.py", "sum.py", "_own.py", "two words.py"):
             with self.subTest(name=name):

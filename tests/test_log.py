@@ -3,11 +3,10 @@
 import unittest
 
 from study_calls import (
-    LOG_FULL, MISSING, NOT_ENOUGH, OUT_OF_LIMITS, add_event, ask, create, estimate, last, log_event, normalized,
-    remove_last, replay, set_policy,
+    LARGEST, LOG_FULL, MISSING, NOT_ENOUGH, OUT_OF_LIMITS, add_event, ask, create, estimate, last, log_event,
+    normalized, remove_last, replay, set_policy, status,
 )
 
-LARGEST = 4294967295
 FULL = [create(2, 2)] + [add_event(0, 0, 10, 1, 2)] * 40
 
 
@@ -129,6 +128,9 @@ class LogEvent(unittest.TestCase):
         self.assertEqual(last(calls + [log_event(0, 0, 0, 5)]), [1])
         self.assertEqual(last(calls + [log_event(0, 1, 1, 5)]), [1])
         self.assertEqual(last(calls + [log_event(1, 0, 1, 5)]), [1])
+
+    def test_the_reward_sum_of_the_log(self):
+        self.assertEqual(ask([create(2, 2), log_event(0, 0, 0, 9), log_event(0, 1, 1, 70), status()])[-1], [2, 2, 2, 79])
 
     def test_forty_and_one_more(self):
         answered = ask([create(2, 2)] + [log_event(0, 0, 0, 10)] * 41)

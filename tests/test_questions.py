@@ -3,28 +3,11 @@
 import unittest
 from fractions import Fraction
 
+from sample_logs import LOG, MODELLED, NEVER, PRIME_LOG, PRIMES
 from study_calls import (
-    MISSING, NOT_ENOUGH, OUT_OF_LIMITS, add_event, ask, create, effective_size, estimate, fit_model, last, log_event,
-    normalized, propensity, replay, set_model, set_policy, variance,
+    LARGEST, MISSING, NOT_ENOUGH, OUT_OF_LIMITS, add_event, ask, create, effective_size, estimate, fit_model, last,
+    log_event, normalized, propensity, replay, set_model, set_policy, variance,
 )
-
-LARGEST = 4294967295
-
-# Policy 1 has the weights 1, so its importances are 1, 1, 2 and 2/3; those of policy 0 are 2, 0, 1 and 1.
-LOG = [
-    create(2, 2),
-    add_event(0, 0, 10, 1, 2),
-    add_event(0, 1, 4, 1, 2),
-    add_event(1, 0, 6, 1, 4),
-    add_event(1, 1, 8, 3, 4),
-    set_policy(0, 0, [1, 0]),
-    set_policy(0, 1, [1, 3]),
-]
-# The direct values of policy 1 are 30 in context 0 and 50 in context 1; those of policy 0 are 20 and 75.
-MODELLED = LOG + [set_model(0, [20, 40]), set_model(1, [0, 100])]
-# Policy 0 never chooses the one action of the log.
-NEVER = [create(1, 2), add_event(0, 1, 50, 1, 2), add_event(0, 1, 60, 1, 3), set_policy(0, 0, [1, 0])]
-
 
 class Propensity(unittest.TestCase):
     def test_lowest_terms(self):
@@ -84,13 +67,11 @@ class Estimate(unittest.TestCase):
             self.assertEqual(last(NEVER + [estimate(0, kind, 100)]), [0, 0, 1])
 
     def test_numbers_beyond_64_bits(self):
-        primes = [907, 911, 919, 929, 937, 941, 947, 953, 967, 971, 977, 983, 991, 997]
-        events = [add_event(0, 0, 100, prime, 1000) for prime in primes]
-        terms = [Fraction(100 * 1000, prime) for prime in primes]
+        terms = [Fraction(100 * 1000, prime) for prime in PRIMES]
         middle = sum(terms) / len(terms)
         spread = sum((term - middle) ** 2 for term in terms) / (len(terms) * (len(terms) - 1))
         self.assertGreater(middle.denominator, 2 ** 128)
-        answered = ask([create(1, 1)] + events + [estimate(0, 1, 1), variance(0, 1, 1)])[-2:]
+        answered = ask(PRIME_LOG + [estimate(0, 1, 1), variance(0, 1, 1)])[-2:]
         self.assertEqual(answered[0], [0, middle.numerator, middle.denominator])
         self.assertEqual(answered[1], [0, spread.numerator, spread.denominator])
 

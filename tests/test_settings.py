@@ -2,28 +2,18 @@
 
 import unittest
 
-from logworth.study import Session
 from study_calls import (
-    MISSING, OUT_OF_LIMITS, add_event, ask, copy_policy, create, estimate, fit_model, last, propensity, remove_last,
-    set_model, set_policy, set_truth,
+    LARGEST, MISSING, OUT_OF_LIMITS, add_event, ask, copy_policy, create, estimate, fit_model, last, model_info,
+    propensity, set_model, set_policy, set_truth, true_value,
 )
 
-LARGEST = 4294967295
 
-
-def model_of(calls, events, contexts, actions):
-    """The model after the calls, which leave so many events: each estimated reward as the answer tells it.
-
-    A single event is logged in the context, and a policy that chooses one action alone is asked about.
-    """
+def model_of(calls, contexts):
+    """The model after the calls: each estimated reward as the answer tells it."""
     rows = []
     for context in range(contexts):
-        row = []
-        for action in range(actions):
-            only = [int(other == action) for other in range(actions)]
-            asked = [add_event(context, 0, 0, 1, 1), set_policy(2, context, only), estimate(2, 0, 1)]
-            row.append(tuple(last(calls + [remove_last()] * events + asked)[1:]))
-        rows.append(row)
+        answer = last(calls + [model_info(context)])
+        rows.append(list(zip(answer[1::2], answer[2::2])))
     return rows
 
 
@@ -91,18 +81,18 @@ class SetModel(unittest.TestCase):
     def test_sets_one_context(self):
         calls = [create(3, 2), set_model(1, [0, 100])]
         self.assertEqual(last(calls), [0])
-        self.assertEqual(model_of(calls, 0, 3, 2), [[(0, 1), (0, 1)], [(0, 1), (100, 1)], [(0, 1), (0, 1)]])
+        self.assertEqual(model_of(calls, 3), [[(0, 1), (0, 1)], [(0, 1), (100, 1)], [(0, 1), (0, 1)]])
 
     def test_set_again(self):
         calls = [create(2, 1), set_model(0, [30]), set_model(1, [40]), set_model(0, [50])]
-        self.assertEqual(model_of(calls, 0, 2, 1), [[(50, 1)], [(40, 1)]])
+        self.assertEqual(model_of(calls, 2), [[(50, 1)], [(40, 1)]])
 
     def test_estimates_outside_their_limits(self):
         for estimates in ([], [1], [1, 1, 1], [1] * 12, [101, 0], [0, 101], [0, LARGEST]):
             with self.subTest(estimates=estimates):
                 calls = [create(2, 2), set_model(0, [5, 6]), set_model(0, estimates)]
                 self.assertEqual(last(calls), OUT_OF_LIMITS)
-                self.assertEqual(model_of(calls, 0, 1, 2), [[(5, 1), (6, 1)]])
+                self.assertEqual(model_of(calls, 1), [[(5, 1), (6, 1)]])
         self.assertEqual(last([create(2, 2), set_model(0, [0, 0])]), [0])
         self.assertEqual(last([create(2, 2), set_model(0, [100, 100])]), [0])
 
@@ -130,7 +120,7 @@ class FitModel(unittest.TestCase):
             add_event(0, 1, 7, 1, 3),
             fit_model(),
         ]
-        self.assertEqual(model_of(calls, 4, 3, 3), [
+        self.assertEqual(model_of(calls, 3), [
             [(31, 2), (7, 1), (0, 1)],
             [(60, 1), (7, 1), (0, 1)],
             [(91, 3), (7, 1), (0, 1)],
@@ -138,34 +128,44 @@ class FitModel(unittest.TestCase):
 
     def test_replaces_the_whole_model(self):
         calls = [create(2, 2), set_model(0, [9, 9]), set_model(1, [9, 9]), fit_model()]
-        self.assertEqual(model_of(calls, 0, 2, 2), [[(0, 1), (0, 1)], [(0, 1), (0, 1)]])
+        self.assertEqual(model_of(calls, 2), [[(0, 1), (0, 1)], [(0, 1), (0, 1)]])
 
     def test_stays_when_events_come_later(self):
         calls = [create(1, 1), add_event(0, 0, 10, 1, 1), fit_model(), add_event(0, 0, 50, 1, 1)]
-        self.assertEqual(model_of(calls, 2, 1, 1), [[(10, 1)]])
+        self.assertEqual(model_of(calls, 1), [[(10, 1)]])
 
     def test_rewards_of_0_count_as_events(self):
         calls = [create(2, 1), add_event(0, 0, 0, 1, 1), add_event(1, 0, 50, 1, 1), fit_model()]
-        self.assertEqual(model_of(calls, 2, 2, 1), [[(0, 1)], [(50, 1)]])
+        self.assertEqual(model_of(calls, 2), [[(0, 1)], [(50, 1)]])
 
 
 class SetTruth(unittest.TestCase):
-    def truth_after(self, given):
-        """What set_truth answers, and the truth of a study of 2 contexts and 2 actions after it."""
-        session = Session()
-        session.answer(0, [2, 2])
-        answer = session.answer(8, given)
-        return answer, session.study.truth_weights, session.study.truth_rewards
+    SETS = [set_truth(0, 3, [10, 20]), set_truth(1, 1, [50, 90])]
+
+    def values_after(self, calls):
+        """The true values of the policies that choose one action alone in each of 2 contexts."""
+        values = []
+        for first in ([1, 0], [0, 1]):
+            for second in ([1, 0], [0, 1]):
+                asked = [set_policy(0, 0, first), set_policy(0, 1, second), true_value(0)]
+                values.append(tuple(last([create(2, 2)] + calls + asked)[1:]))
+        return values
 
     def test_sets_one_context(self):
-        self.assertEqual(self.truth_after([1, 3, [4, 8]]), ([0], [1, 3], [[0, 0], [4, 8]]))
-        self.assertEqual(self.truth_after([0, 1000, [0, 100]]), ([0], [1000, 1], [[0, 100], [0, 0]]))
+        self.assertEqual(self.values_after([set_truth(1, 3, [4, 8])]), [(3, 1), (6, 1), (3, 1), (6, 1)])
+        self.assertEqual(self.values_after([set_truth(0, 1000, [0, 100])]),
+                         [(0, 1), (0, 1), (100000, 1001), (100000, 1001)])
+        self.assertEqual(self.values_after(self.SETS), [(20, 1), (30, 1), (55, 2), (75, 2)])
+
+    def test_set_again(self):
+        again = [set_truth(0, 9, [99, 98])] + self.SETS
+        self.assertEqual(self.values_after(again), [(20, 1), (30, 1), (55, 2), (75, 2)])
 
     def test_refused_leaves_the_truth(self):
-        refused = [[2, 3, [4, 8]], [0, 0, [4, 8]], [0, 1001, [4, 8]], [0, 3, [4]], [0, 3, [101, 8]], [0, 3, [4, 101]]]
-        for given in refused:
+        for given in ((2, 3, [4, 8]), (0, 0, [4, 8]), (0, 1001, [4, 8]), (0, 3, [4]), (0, 3, [101, 8]),
+                      (0, 3, [4, 101])):
             with self.subTest(given=given):
-                self.assertEqual(self.truth_after(given)[1:], ([1, 1], [[0, 0], [0, 0]]))
+                self.assertEqual(self.values_after(self.SETS + [set_truth(*given)]), self.values_after(self.SETS))
 
     def test_least_and_greatest(self):
         for weight, rewards in ((1, [0, 0]), (1000, [100, 100])):
